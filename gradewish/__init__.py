@@ -1,0 +1,1 @@
+"""Gradewish: marks, the worst left out, and what is still needed."""

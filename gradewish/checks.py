@@ -25,9 +25,9 @@ def checked(course):
 def _check_part(part):
     weight, worst, top, tasks, extras = part
     _check_weight(weight)
-    if not _is_within(worst, 0, MOST_WORST):
+    if not is_within(worst, 0, MOST_WORST):
         raise BadWorst(f"the tasks left out are from 0 to {MOST_WORST}")
-    if not _is_within(top, 0, MOST_TOP):
+    if not is_within(top, 0, MOST_TOP):
         raise BadTop(f"the most that extras can bring is from 0 to {MOST_TOP}")
     if len(tasks) > MOST_TASKS:
         raise TooMany(f"a part has at most {MOST_TASKS} tasks")
@@ -39,14 +39,14 @@ def _check_part(part):
 def _check_task(task):
     weight, most, cap, tries = task
     _check_weight(weight)
-    if not _is_within(most, 1, MOST_POINTS):
+    if not is_within(most, 1, MOST_POINTS):
         raise BadMost(f"the most points of a task are from 1 to {MOST_POINTS}")
-    if not _is_within(cap, 0, most):
+    if not is_within(cap, 0, most):
         raise BadCap(f"the cap of this task is from 0 to {most}")
     if len(tries) > MOST_TRIES:
         raise TooMany(f"a task has at most {MOST_TRIES} tries")
     for points in tries:
-        if not _is_within(points, 0, most):
+        if not is_within(points, 0, most):
             raise BadMark(f"the points of a try at this task are from 0 to {most}")
 
 
@@ -54,17 +54,23 @@ def _check_extras(extras):
     if len(extras) > MOST_EXTRAS:
         raise TooMany(f"a part has at most {MOST_EXTRAS} extras")
     for extra in extras:
-        if not _is_within(extra, 0, MOST_EXTRA):
+        if not is_within(extra, 0, MOST_EXTRA):
             raise BadExtra(f"an extra is from 0 to {MOST_EXTRA}")
 
 
 def _check_weight(weight):
-    if not _is_within(weight, 1, MOST_WEIGHT):
+    if not is_within(weight, 1, MOST_WEIGHT):
         raise BadWeight(f"a weight is from 1 to {MOST_WEIGHT}")
 
 
-def _is_within(number, least, most):
+def is_within(number, least, most):
+    """Whether this is a whole number from the least one to the most."""
+    return is_from(number, least) and number <= most
+
+
+def is_from(number, least):
+    """Whether this is a whole number from the least one on."""
     # True and False count as ints for Python, but not for the document.
     if isinstance(number, bool) or not isinstance(number, int):
         return False
-    return least <= number <= most
+    return number >= least

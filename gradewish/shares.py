@@ -24,3 +24,13 @@ def less(one, other):
     """Whether one share is less than the other one."""
     # Both bottoms are above 0, so to multiply by them keeps the order.
     return one[0] * other[1] < other[0] * one[1]
+
+
+def weighted(rows):
+    """The mean of the shares in rows (weight, share), at least one, each counted as often as its weight."""
+    total = (0, 1)
+    weights = 0
+    for weight, one in rows:
+        total = plus(total, times(one, weight, 1))
+        weights += weight
+    return times(total, 1, weights)

@@ -8,18 +8,12 @@ from gradewish.checks import checked
 from gradewish.errors import (
     BadCap, BadExtra, BadMark, BadMost, BadTop, BadWeight, BadWorst, GradeError, TooMany,
 )
+from tests.oracle import as_tuples
 
 
 def full_course():
     """A good course, all of lists: two parts, each with two tasks of two tries, and two extras."""
     return [[5, 1, 50, [[2, 10, 6, [3, 4]], [3, 10, 6, [3, 4]]], [7, 8]] for _ in range(2)]
-
-
-def in_tuples(value):
-    """The same with tuples in the place of lists."""
-    if isinstance(value, list):
-        return tuple(in_tuples(one) for one in value)
-    return value
 
 
 def put(course, place, value):
@@ -33,7 +27,7 @@ def put(course, place, value):
 class CheckCase(unittest.TestCase):
     def forms(self, course):
         """The course all of lists, all of tuples, and the course alone a list or a tuple."""
-        tuples = in_tuples(course)
+        tuples = as_tuples(course)
         return [course, tuples, list(tuples), tuple(course)]
 
     def assert_good(self, course):

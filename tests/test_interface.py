@@ -15,6 +15,18 @@ FUNCTIONS = {
     },
     "gradewish.checks": {"checked": ["course"]},
     "gradewish.tasks": {"gives": ["task"], "mark": ["task"], "chosen": ["task"]},
+    "gradewish.parts": {"left_out": ["part"], "mean": ["part", "numbers"], "part_share": ["part"]},
+    "gradewish.grades": {"grade": ["course"], "tale": ["course"]},
+    "gradewish.wishes": {
+        "tried": ["course", "part", "task", "points"],
+        "reached": ["course", "wish"],
+        "least_points": ["course", "part", "task", "wish"],
+        "least_share": ["course", "wish"],
+    },
+    "gradewish.steps": {
+        "step_of": ["steps", "one"],
+        "points_for": ["course", "part", "task", "steps", "name"],
+    },
 }
 
 REFUSALS = [

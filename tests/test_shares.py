@@ -3,7 +3,7 @@
 import unittest
 from fractions import Fraction
 
-from gradewish.shares import less, plus, share, times
+from gradewish.shares import less, plus, share, times, weighted
 
 BIG = 10 ** 12
 
@@ -135,6 +135,15 @@ class LessTest(unittest.TestCase):
         for one in SOME + LARGE:
             for other in SOME + LARGE:
                 self.assertIs(less(one, other), Fraction(*one) < Fraction(*other))
+
+
+class WeightedTest(ShareCase):
+    def test_of_one_share(self):
+        self.assert_share(weighted([(7, (2, 3))]), (2, 3))
+
+    def test_each_as_often_as_its_weight(self):
+        self.assert_share(weighted([(3, (1, 2)), (1, (1, 1))]), (5, 8))
+        self.assert_share(weighted([(1, (1, 2)), (2, (0, 1)), (3, (1, 3))]), (1, 4))
 
 
 if __name__ == "__main__":

@@ -1,4 +1,4 @@
-"""Promise 1 over the whole program: nothing handed in is changed, nothing hangs on it, and lists are the asker's own."""
+"""Promise 1 over the whole program: nothing handed in is changed or hung on, and lists are the asker's own."""
 
 import copy
 import unittest
